@@ -1,0 +1,1 @@
+"""Chute: repairing a marble run."""
