@@ -1,5 +1,7 @@
 """What the tests share: calls as they are handed in, and answers taken apart again."""
 
+import unittest
+
 from chutes.mending import answers
 
 BIG = 2 ** 53
@@ -38,6 +40,18 @@ def run(*calls):
         taken.append(told[1:told[0] + 1])
         told = told[told[0] + 1:]
     return taken
+
+
+class TextCase(unittest.TestCase):
+    """Checks of what load answers."""
+
+    def good(self, text, *told):
+        with self.subTest(text=text):
+            self.assertEqual(run(load(text)), [list(told)])
+
+    def bad(self, text, line, code):
+        with self.subTest(text=text):
+            self.assertEqual(run(load(text)), [[-(100 * line + code + 10)]])
 
 
 def part(name, rows, *puts):

@@ -2,7 +2,7 @@
 
 import unittest
 
-from chutes.mending import answers
+from chutes.mending import Bench, answer, answers
 from tests.helper import (
     BIG, CLEAR_TARGET, MEETS_TARGET, RINGING, call, load, part, run, set_horizon, set_palette, want_ring,
 )
@@ -124,6 +124,19 @@ class Palette(unittest.TestCase):
         self.check([46, 46], -2)
         self.check([46, 35, 46], -2)
         self.check([46, 35, 33], 3)
+
+    def test_what_is_kept(self):
+        bench = Bench()
+        text = [ord(sign) for sign in GOOD]
+        self.assertEqual(answer(bench, 1, text), [1, 3, 1])
+        self.assertEqual(bench.palette, [".", "\\", "/"])
+        self.assertEqual(answer(bench, 2, [ord("U"), ord(".")]), [2])
+        for failing in [[], [46, 46], [10]]:
+            self.assertEqual(answer(bench, 2, failing), [-2])
+        self.assertEqual(answer(bench, 1, []), [-216])
+        self.assertEqual(bench.palette, ["U", "."])
+        self.assertEqual(answer(bench, 1, text), [1, 3, 1])
+        self.assertEqual(bench.palette, [".", "\\", "/"])
 
     def test_a_failed_one_changes_nothing_else(self):
         told = run(load(GOOD), want_ring(2, 0), call(2), MEETS_TARGET, CLEAR_TARGET)

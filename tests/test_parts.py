@@ -1,24 +1,14 @@
 """Copies of parts in parts: places, mirroring, errors copy by copy, and letter sets."""
 
-import unittest
-
 from chutes.cells import copied_cell, written_cell
-from tests.helper import load, part, rings_of, run
+from tests.helper import TextCase, part, rings_of
 
 UNIT = part("u", ["."])
 STONE = part("s", ["#"])
 BELL = part("b", ["!"])
 
 
-class PutCase(unittest.TestCase):
-    def good(self, text, *told):
-        with self.subTest(text=text):
-            self.assertEqual(run(load(text)), [list(told)])
-
-    def bad(self, text, line, code):
-        with self.subTest(text=text):
-            self.assertEqual(run(load(text)), [[-(100 * line + code + 10)]])
-
+class PutCase(TextCase):
     def rings(self, text, expected):
         with self.subTest(text=text):
             self.assertEqual(rings_of(text), expected)

@@ -1,21 +1,9 @@
 """Program texts: their lines and words, and the errors in them."""
 
-import unittest
-
-from tests.helper import BIG, RINGING, call, load, part, rings, rings_of, run
+from tests.helper import BIG, RINGING, TextCase, call, load, part, rings, rings_of, run
 
 UNIT = "part u 1 1\n:.\nend\n"
 STONE = "part s 1 1\n:#\nend\n"
-
-
-class TextCase(unittest.TestCase):
-    def good(self, text, *told):
-        with self.subTest(text=text):
-            self.assertEqual(run(load(text)), [list(told)])
-
-    def bad(self, text, line, code):
-        with self.subTest(text=text):
-            self.assertEqual(run(load(text)), [[-(100 * line + code + 10)]])
 
 
 class Bytes(TextCase):
