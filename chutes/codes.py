@@ -10,5 +10,6 @@ NO_PART = 6
 
 # Errors of operations.
 OUT_OF_RANGE = 2
+NO_REPAIR = 3
 REFUSED = 4
 NO_TEXT = 7

@@ -1,9 +1,10 @@
 """The calls: each reads or changes the bench, and is answered by a list of whole numbers."""
 
 from chutes.cells import CHARACTERS
-from chutes.codes import NO_TEXT, OUT_OF_RANGE, REFUSED
+from chutes.changing import Trials
+from chutes.codes import NO_REPAIR, NO_TEXT, OUT_OF_RANGE, REFUSED
 from chutes.reading import MOST_MARBLES, Program, read_text
-from chutes.running import find_rings
+from chutes.running import find_path
 from chutes.signs import is_sign, sign_of
 
 LOAD = 1
@@ -22,9 +23,8 @@ class Bench:
 
     def begin(self, board, drops):
         """Begin anew with a board and the drops of its marbles."""
-        self.board = board
-        self.drops = drops
-        self.horizon = MOST_TICKS
+        # The board with its marbles, and the horizon.
+        self.trials = Trials(board, drops, MOST_TICKS)
         # Pairs of a tick and a marble, in the order in which they were added.
         self.target = []
         self.palette = list(FIRST_PALETTE)
@@ -35,6 +35,20 @@ def refusal(code):
     return [-code]
 
 
+def counted(groups):
+    """The answer that tells how many groups of numbers there are, then the numbers of each."""
+    told = [len(groups)]
+    for group in groups:
+        told.extend(group)
+    return told
+
+
+def position_of(bench, place):
+    """The column and the row of a place of the board."""
+    width = bench.trials.board.width
+    return (place % width, place // width)
+
+
 def load(bench, numbers):
     """Load a text."""
     if len(numbers) > LONGEST_TEXT or not all([is_sign(number) for number in numbers]):
@@ -43,11 +57,11 @@ def load(bench, numbers):
     error = read_text(program, "".join([sign_of(number) for number in numbers]))
     if error > 0:
         return refusal(error)
-    board = program.board
-    if board.width * board.height > LARGEST_BOARD:
+    loaded = program.board
+    if loaded.width * loaded.height > LARGEST_BOARD:
         return refusal(REFUSED)
-    bench.begin(board, program.drops)
-    return [board.width, board.height, len(program.drops)]
+    bench.begin(loaded, program.drops)
+    return [loaded.width, loaded.height, len(program.drops)]
 
 
 def set_palette(bench, numbers):
@@ -64,7 +78,7 @@ def set_horizon(bench, numbers):
     """Set the horizon."""
     if numbers[0] < 1 or numbers[0] > MOST_TICKS:
         return refusal(OUT_OF_RANGE)
-    bench.horizon = numbers[0]
+    bench.trials = Trials(bench.trials.board, bench.trials.drops, numbers[0])
     return [0]
 
 
@@ -89,18 +103,61 @@ def clear_target(bench, numbers):
 
 def ringing(bench, numbers):
     """Tell the ringing of the board."""
-    rings = find_rings(bench.board, bench.drops, bench.horizon)
-    told = [len(rings)]
-    for ring in rings:
-        told.extend(ring)
-    return told
+    return counted(bench.trials.rings_now())
 
 
 def meets_target(bench, numbers):
     """Tell whether the board meets the target."""
-    if find_rings(bench.board, bench.drops, bench.horizon) == sorted(bench.target):
+    if bench.trials.rings_now() == sorted(bench.target):
         return [1]
     return [0]
+
+
+def repairs(bench, numbers):
+    """List the repairs."""
+    told = []
+    for place, sign in bench.trials.repairs_among(bench.palette, bench.target):
+        told.append(position_of(bench, place) + (ord(sign),))
+    return counted(told)
+
+
+def idle_cells(bench, numbers):
+    """List the idle cells."""
+    return counted([position_of(bench, place) for place in bench.trials.idle_places()])
+
+
+def count_changes(bench, numbers):
+    """Count the noticeable changes, and all changes."""
+    return [len(bench.trials.noticeable_among(bench.palette)), len(bench.trials.changes_among(bench.palette))]
+
+
+def apply_repair(bench, numbers):
+    """Apply a repair to the board."""
+    index = numbers[0]
+    found = bench.trials.repairs_among(bench.palette, bench.target)
+    if index < 0 or index >= len(found):
+        return refusal(NO_REPAIR)
+    place, sign = found[index]
+    changed = bench.trials.board.changed(place, sign)
+    bench.trials = Trials(changed, bench.trials.drops, bench.trials.horizon)
+    column, row = position_of(bench, place)
+    return [ord(sign), column, row]
+
+
+def board(bench, numbers):
+    """Tell the size and the cells of the board."""
+    shown = bench.trials.board
+    return [shown.width, shown.height] + [ord(cell.sign) for cell in shown.cells]
+
+
+def path(bench, numbers):
+    """Tell the positions of a marble."""
+    marble = numbers[0]
+    trials = bench.trials
+    if marble < 0 or marble >= len(trials.drops):
+        return refusal(OUT_OF_RANGE)
+    places = find_path(trials.board, trials.drops, trials.horizon, marble)
+    return counted([position_of(bench, place) for place in places])
 
 
 OPERATIONS = {
@@ -111,12 +168,18 @@ OPERATIONS = {
     5: clear_target,
     6: ringing,
     7: meets_target,
+    8: repairs,
+    9: idle_cells,
+    10: count_changes,
+    11: apply_repair,
+    12: board,
+    13: path,
 }
 
 
 def answer(bench, operation, numbers):
     """Answer one call."""
-    if operation != LOAD and bench.board is None:
+    if operation != LOAD and bench.trials.board is None:
         return refusal(NO_TEXT)
     return OPERATIONS[operation](bench, numbers)
 

@@ -55,3 +55,11 @@ class Part:
             self.cells[place] = cell
         self.set_count += source.set_count
         return 0
+
+    def changed(self, place, sign):
+        """A part like this one, but for one cell, which is written with this character in a row of the part."""
+        part = Part(self.width, self.height)
+        part.cells = list(self.cells)
+        part.cells[place] = written_cell(sign)
+        part.set_count = self.set_count
+        return part

@@ -86,6 +86,13 @@ class Run:
             return 0
         return cell.side
 
+    def place_of(self, marble):
+        """The place where a marble is, None if it is not on the board."""
+        for place in self.marbles:
+            if self.marbles[place] == marble:
+                return place
+        return None
+
     def is_below(self, place):
         """Whether a place lies below the board."""
         return place >= len(self.board.cells)
@@ -146,3 +153,15 @@ def find_rings(board, drops, horizon):
     while run.tick < horizon:
         run.advance()
     return sorted(run.rings)
+
+
+def find_path(board, drops, horizon, marble):
+    """The places of a marble after each of the ticks up to the horizon after which it is on the board."""
+    run = Run(board, drops)
+    places = []
+    while run.tick < horizon:
+        run.advance()
+        place = run.place_of(marble)
+        if place is not None:
+            places.append(place)
+    return places

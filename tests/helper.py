@@ -27,9 +27,21 @@ def want_ring(tick, marble):
     return call(4, tick, marble)
 
 
+def apply_repair(index):
+    return call(11, index)
+
+
+def path(marble):
+    return call(13, marble)
+
+
 CLEAR_TARGET = call(5)
 RINGING = call(6)
 MEETS_TARGET = call(7)
+REPAIRS = call(8)
+IDLE_CELLS = call(9)
+COUNT_CHANGES = call(10)
+BOARD = call(12)
 
 
 def run(*calls):
@@ -61,14 +73,29 @@ def part(name, rows, *puts):
     return "\n".join(lines + list(puts) + ["end"]) + "\n"
 
 
+def grouped(told, size):
+    """The groups of an answer that tells how many there are, then the numbers of each."""
+    assert len(told) == 1 + size * told[0], told
+    return [tuple(told[at:at + size]) for at in range(1, len(told), size)]
+
+
 def rings_of(text, horizon=40):
     """The ringing of the board of a text, as pairs of a tick and a marble."""
     loaded, horizon_set, told = run(load(text), set_horizon(horizon), RINGING)
     assert len(loaded) == 3 and horizon_set == [0], (loaded, horizon_set)
-    assert len(told) == 1 + 2 * told[0], told
-    return [(told[at], told[at + 1]) for at in range(1, len(told), 2)]
+    return grouped(told, 2)
 
 
 def rings(rows, *drops, horizon=40):
     """The ringing of a board with these rows; a drop is written without its first word."""
-    return rings_of(part("a", rows) + "\n".join("drop " + drop for drop in drops), horizon)
+    return rings_of(plain(rows, *drops), horizon)
+
+
+def plain(rows, *drops):
+    """The text of a board with these rows; a drop is written without its first word."""
+    return part("a", rows) + "\n".join("drop " + drop for drop in drops)
+
+
+def coded(repairs):
+    """Repairs that are written with the new character, as they are told: with its byte."""
+    return [(column, row, ord(sign)) for column, row, sign in repairs]

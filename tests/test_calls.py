@@ -1,10 +1,11 @@
-"""How calls are handed in and answered, and the calls but for the texts of load and the simulation."""
+"""How calls are handed in and answered, what load sets anew, and the palette, the horizon and the target."""
 
 import unittest
 
-from chutes.mending import Bench, answer, answers
+from chutes.mending import answers
 from tests.helper import (
-    BIG, CLEAR_TARGET, MEETS_TARGET, RINGING, call, load, part, run, set_horizon, set_palette, want_ring,
+    BIG, BOARD, CLEAR_TARGET, COUNT_CHANGES, IDLE_CELLS, MEETS_TARGET, REPAIRS, RINGING, apply_repair, call, coded,
+    grouped, load, part, path, run, set_horizon, set_palette, want_ring,
 )
 
 GOOD = part("a", [".", "!", "."]) + "drop 0 1"
@@ -27,12 +28,14 @@ class HandingIn(unittest.TestCase):
         self.assertEqual(answers(calls), [1, -7, 3, 1, 3, 1, 3, 1, 2, 0, 1, 0, 1, -2])
 
     def test_whole_numbers_are_answered(self):
-        told = answers(load(GOOD) + RINGING + want_ring(2, 0) + MEETS_TARGET + set_horizon(1) + MEETS_TARGET)
+        told = answers(load(GOOD) + RINGING + want_ring(2, 0) + MEETS_TARGET + set_horizon(1) + MEETS_TARGET
+                       + CLEAR_TARGET + REPAIRS + IDLE_CELLS + COUNT_CHANGES + apply_repair(0) + BOARD + path(0))
         self.assertEqual({type(number) for number in told}, {int})
         self.assertIs(type(told), list)
 
     def test_what_is_handed_in_stays_the_same(self):
         calls = load(GOOD) + set_palette("U.") + want_ring(2, 0) + set_horizon(7) + RINGING + MEETS_TARGET
+        calls += REPAIRS + IDLE_CELLS + COUNT_CHANGES + apply_repair(0) + BOARD + path(0) + apply_repair(-1)
         before = list(calls)
         first = answers(calls)
         self.assertEqual(calls, before)
@@ -43,6 +46,12 @@ class HandingIn(unittest.TestCase):
         answers(load(GOOD) + want_ring(2, 0) + set_horizon(1))
         self.assertEqual(run(RINGING), [NOT_LOADED])
         self.assertEqual(run(load(GOOD), RINGING, CLEAR_TARGET), [[1, 3, 1], [1, 2, 0], [0]])
+
+    def test_no_changed_board_is_kept(self):
+        calls = [load(GOOD), want_ring(2, 0), BOARD, apply_repair(0), BOARD]
+        expected = [[1, 3, 1], [1], [1, 3, 46, 33, 46], [92, 0, 2], [1, 3, 46, 33, 92]]
+        self.assertEqual(run(*calls), expected)
+        self.assertEqual(run(*calls), expected)
 
     def test_twenty_calls_and_four_long_texts(self):
         text = part("a", ["!"]) + "drop 0 1\n;"
@@ -77,6 +86,15 @@ class LoadingAgain(unittest.TestCase):
                            want_ring(2, 0), CLEAR_TARGET)
                 self.assertEqual(told[4:], [[1, 2, 0], [1], [-4], [1]])
 
+    def test_a_failed_load_keeps_the_changed_board(self):
+        for text in ["", "part a 1 1\n:!\nend\ndrop 1 1", "\t", part("a", ["." * 19] * 2), "x" * 4001]:
+            with self.subTest(text=text[:20]):
+                told = run(load(GOOD), set_palette("#."), want_ring(2, 0), apply_repair(0), load(text), BOARD,
+                           REPAIRS, COUNT_CHANGES, path(0), MEETS_TARGET)
+                self.assertEqual(told[3], [35, 0, 2])
+                self.assertEqual(told[5:7], [[1, 3, 46, 33, 35], [1, 0, 2, 46]])
+                self.assertEqual(told[7:], [[3, 4], [40, 0, 0] + [0, 1] * 39, [1]])
+
     def test_a_failed_load_keeps_the_horizon(self):
         told = run(load(GOOD), set_horizon(1), load("part"), RINGING)
         self.assertEqual(told, [[1, 3, 1], [0], [-111], [0]])
@@ -84,6 +102,17 @@ class LoadingAgain(unittest.TestCase):
     def test_a_good_load_begins_anew(self):
         told = run(load(GOOD), set_horizon(1), want_ring(2, 0), load(GOOD), RINGING, MEETS_TARGET, CLEAR_TARGET)
         self.assertEqual(told[4:], [[1, 2, 0], [0], [0]])
+
+    def test_a_good_load_brings_the_first_board_back(self):
+        told = run(load(GOOD), set_palette("#."), set_horizon(3), want_ring(2, 0), apply_repair(0), load(GOOD), BOARD,
+                   REPAIRS, COUNT_CHANGES, path(0), set_horizon(40), path(0))
+        self.assertEqual(told[4:7], [[35, 0, 2], [1, 3, 1], [1, 3, 46, 33, 46]])
+        silent = coded([(0, 0, "\\"), (0, 0, "/"), (0, 1, "."), (0, 1, "\\"), (0, 1, "/")])
+        self.assertEqual(grouped(told[7], 3), silent)
+        self.assertEqual(told[8:], [[5, 7], [3, 0, 0, 0, 1, 0, 2], [0], [3, 0, 0, 0, 1, 0, 2]])
+
+    def test_initial_palette(self):
+        self.assertEqual(run(load(SILENT), REPAIRS), [[1, 1, 0], [2, 0, 0, 92, 0, 0, 47]])
 
     def test_a_good_load_brings_its_own_marbles(self):
         told = run(load(GOOD), load(part("b", ["!."]) + "drop 1 1\ndrop 0 2"), RINGING)
@@ -126,17 +155,13 @@ class Palette(unittest.TestCase):
         self.check([46, 35, 33], 3)
 
     def test_what_is_kept(self):
-        bench = Bench()
-        text = [ord(sign) for sign in GOOD]
-        self.assertEqual(answer(bench, 1, text), [1, 3, 1])
-        self.assertEqual(bench.palette, [".", "\\", "/"])
-        self.assertEqual(answer(bench, 2, [ord("U"), ord(".")]), [2])
-        for failing in [[], [46, 46], [10]]:
-            self.assertEqual(answer(bench, 2, failing), [-2])
-        self.assertEqual(answer(bench, 1, []), [-216])
-        self.assertEqual(bench.palette, ["U", "."])
-        self.assertEqual(answer(bench, 1, text), [1, 3, 1])
-        self.assertEqual(bench.palette, [".", "\\", "/"])
+        for failing in [[], [46, 46], [10], [46] * 13, [-46], [BIG]]:
+            told = run(load(SILENT), set_palette("U.!"), call(2, *failing), REPAIRS)
+            self.assertEqual(told[2:], [[-2], [2, 0, 0, ord("U"), 0, 0, ord("!")]])
+        told = run(load(SILENT), set_palette("U.!"), load(""), REPAIRS, set_palette("#"), REPAIRS,
+                   load(SILENT), REPAIRS)
+        self.assertEqual(told[3], [2, 0, 0, ord("U"), 0, 0, ord("!")])
+        self.assertEqual(told[5:], [[1, 0, 0, ord("#")], [1, 1, 0], [2, 0, 0, 92, 0, 0, 47]])
 
     def test_a_failed_one_changes_nothing_else(self):
         told = run(load(GOOD), want_ring(2, 0), call(2), MEETS_TARGET, CLEAR_TARGET)
